@@ -1,0 +1,1 @@
+"""Sayable: how one thing among others is said."""
