@@ -65,9 +65,13 @@ def _borne(part, codes):
 
 
 def _with_numbers(part, codes, moved):
-    """The part with moved[k] in the place of each number k of a part."""
     items = [moved[item] if code == "part" else item for item, code in zip(part[1:], codes)]
     return (part[0], *items)
+
+
+def renumbered_part(part, moved, kinds):
+    """The part with moved[k] in the place of each number k of a part."""
+    return _with_numbers(part, dict(kinds)[part[0]], moved)
 
 
 def one_form(parts, kinds):
@@ -177,7 +181,7 @@ def _read_item(reader, code, ahead):
     word = reader.now()
     item = word
     if code in ("part", "many"):
-        if not is_written(word):
+        if not is_written(word, False):
             reader.fail()
         item = int(word)
     if not _can_stand(item, code, ahead):

@@ -1,8 +1,8 @@
 """What a room is made of: each value that was passed is looked at, and kept as masks.
 
 Things are numbered in their order. A word is the mask of the things of which it
-holds, a link a list with the mask of the things to which it leads from each, a
-scale a list with the number of each thing, or None.
+holds, a link a row with the mask of the things to which it leads from each, a
+scale a row with the number of each thing, or None.
 """
 
 from sayable.bits import turned_rows
@@ -58,10 +58,10 @@ def _word_mask(things, at):
 
 
 def checked_links(links, at):
-    """The dict from the links, ascending, to their two lists: read on, and back."""
+    """The dict from the links, ascending, to their two rows of masks: read on, and back."""
     _need_named(links, "links")
     rows = {link: _link_row(links[link], at) for link in sorted(links)}
-    return {link: (rows[link], turned_rows(rows[link])) for link in rows}
+    return {link: (tuple(rows[link]), tuple(turned_rows(rows[link]))) for link in rows}
 
 
 def _link_row(pairs, at):
@@ -80,11 +80,11 @@ def _link_row(pairs, at):
 
 
 def checked_scales(scales, at):
-    """The dict from the scales, ascending, to their lists of numbers."""
+    """The dict from the scales, ascending, to their rows of numbers."""
     if scales is None:
         return {}
     _need_named(scales, "scales")
-    return {scale: _scale_row(scales[scale], at) for scale in sorted(scales)}
+    return {scale: tuple(_scale_row(scales[scale], at)) for scale in sorted(scales)}
 
 
 def _scale_row(numbers, at):

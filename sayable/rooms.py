@@ -67,14 +67,14 @@ class Room:
         """For each thing the mask of those to which a link leads from it, or back."""
         if not isinstance(link, str) or link not in self._rows:
             raise NoLink(link)
-        on_row, back_row = self._rows[link]
-        return tuple(back_row if back else on_row)
+        rows_on, rows_back = self._rows[link]
+        return rows_back if back else rows_on
 
     def scale_row(self, scale):
         """For each thing its number on a scale, or None."""
         if not isinstance(scale, str) or scale not in self._numbers:
             raise NoScale(scale)
-        return tuple(self._numbers[scale])
+        return self._numbers[scale]
 
     def things_in(self, mask):
         """The things of a mask, in order."""

@@ -5,7 +5,7 @@ from sayable.errors import BadText
 MOST_FIGURES = 9
 
 
-def is_written(word, signed=False):
+def is_written(word, signed):
     """Whether any value is an integer as str writes it, with a sign only if signed."""
     if not isinstance(word, str):
         return False

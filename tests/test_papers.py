@@ -40,6 +40,24 @@ class Papers(Case):
             self.assertNotEqual(Paper("note", 1), other)
             self.assertNotEqual(other, Paper("note", 1))
 
+    def test_equality_of_the_same_class_alone(self):
+        class One(Paper):
+            pass
+
+        class Other(Paper):
+            pass
+
+        class No(Denial):
+            pass
+
+        self.assertEqual(One("note", 1), One("note", 1))
+        for other in (Other("note", 1), Paper("note", 1), One("note", 2), One("x", 1), No("note", 1)):
+            self.assertFalse(One("note", 1) == other)
+            self.assertFalse(other == One("note", 1))
+        for other in (No("no", 1), Denial("no", 2), Denial("x", 1), Denial("no"), Paper("no", 1), 1):
+            self.assertFalse(Denial("no", 1) == other)
+            self.assertFalse(other == Denial("no", 1))
+
     def test_denials(self):
         self.assertIsInstance(Denial("no"), Paper)
         self.assertEqual([bool(Paper("no")), bool(Denial("no", 1)), Denial("no", [1]).parts], [True, False, ((1,),)])

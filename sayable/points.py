@@ -1,0 +1,59 @@
+"""Points: several places that are spoken of together, in the plain ways."""
+
+from sayable.bits import mask_of
+from sayable.checks import is_list
+from sayable.errors import BadPlace, NoLink
+from sayable.fields import Field
+from sayable.needs import is_place, need_few_places, need_rooms
+from sayable.pointwalk import led_points, points_about
+
+
+def is_point(rooms, value):
+    """Whether any value is a point of these rooms."""
+    if not is_list(value) or not value or not all([is_place(rooms, place) for place in value]):
+        return False
+    order = [(place[0], rooms[place[0]].number_of_thing(place[1])) for place in value]
+    return order == sorted(set(order))
+
+
+def need_point(rooms, point):
+    """Raises unless it is a point of these rooms."""
+    if not is_point(rooms, point):
+        raise BadPlace("point")
+
+
+def point_mask(field, point):
+    """The places of a point as a mask."""
+    return mask_of([field.number_of_place(place) for place in point])
+
+
+def points_met(rooms, point, back=False):
+    """Yields the points that come about from a point, in the order in which they are met."""
+    need_rooms(rooms)
+    need_point(rooms, point)
+    need_few_places(rooms)
+    field = Field(rooms)
+    for met in points_about(field, point_mask(field, point), back):
+        yield field.places_in(met)
+
+
+def point_words(rooms, point):
+    """The words that hold of a point, ascending."""
+    need_rooms(rooms)
+    need_point(rooms, point)
+    need_few_places(rooms)
+    field = Field(rooms)
+    mask = point_mask(field, point)
+    return tuple([word for word in field.words if mask & ~field.word_mask(word) == 0])
+
+
+def point_leads(rooms, point, link, back=False):
+    """The points to which a link, read on or back, leads from a point, in their order."""
+    need_rooms(rooms)
+    need_point(rooms, point)
+    if not isinstance(link, str) or link not in rooms[0].links:
+        raise NoLink(link)
+    need_few_places(rooms)
+    field = Field(rooms)
+    led = led_points(field.link_rows(link, back), point_mask(field, point))
+    return tuple([field.places_in(mask) for mask in led])
