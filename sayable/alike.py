@@ -3,7 +3,7 @@
 Pairs (one, other) are kept as rows: row number one is the mask of the others.
 """
 
-from sayable.bits import bits_of, count_of, joined_masks
+from sayable.bits import bits_of, count_of, joined_masks, mask_of
 from sayable.partners import lacking_partners
 from sayable.ways import base_of, reads_back
 
@@ -79,6 +79,13 @@ class Step:
         for at in range(len(self.links_read)):
             places = places | self.leading_to(at, mask)
         return places
+
+
+def like_mask(row, rounds):
+    """The places that are like one for so many rounds, None: for all; row tells when each one parts."""
+    if rounds is None:
+        return mask_of([other for other, parted in enumerate(row) if parted is None])
+    return mask_of([other for other, parted in enumerate(row) if parted is None or parted > rounds])
 
 
 def parting_table(field, way):

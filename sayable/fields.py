@@ -26,6 +26,11 @@ class Field:
         """The places of a mask, in order."""
         return tuple([self.all_places[number] for number in bits_of(mask)])
 
+    def crowds_in(self, mask):
+        """For each room the things of the places of a mask, in order."""
+        places = self.places_in(mask)
+        return tuple([tuple([thing for at, thing in places if at == index]) for index in range(len(self.rooms))])
+
     def word_mask(self, word):
         """The places of which a word holds."""
         return self._masks[word]

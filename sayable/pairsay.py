@@ -4,6 +4,7 @@ from sayable.fields import Field
 from sayable.likeness import need_pair
 from sayable.needs import need_few_places
 from sayable.partings import Partings
+from sayable.placerounds import PlaceRounds
 
 
 def parting_saying(rooms, way, one, other):
@@ -11,8 +12,9 @@ def parting_saying(rooms, way, one, other):
     need_pair(rooms, way, one, other)
     need_few_places(rooms)
     field = Field(rooms)
-    partings = Partings(field, way)
+    rounds = PlaceRounds(field, way)
     pair = (field.number_of_place(one), field.number_of_place(other))
-    if partings.table[pair[0]][pair[1]] is None:
+    if rounds.table[pair[0]][pair[1]] is None:
         return None
+    partings = Partings(rounds)
     return partings.maker.saying_of(partings.part_for(pair[0], pair[1]))

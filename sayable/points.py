@@ -1,11 +1,11 @@
 """Points: several places that are spoken of together, in the plain ways."""
 
-from sayable.bits import mask_of
+from sayable.bits import bits_of, mask_of
 from sayable.checks import is_list
 from sayable.errors import BadPlace, NoLink
 from sayable.fields import Field
 from sayable.needs import is_place, need_few_places, need_rooms
-from sayable.pointwalk import led_points, points_about
+from sayable.pointwalk import PointWalk, in_order, led_points, points_about
 
 
 def is_point(rooms, value):
@@ -27,13 +27,18 @@ def point_mask(field, point):
     return mask_of([field.number_of_place(place) for place in point])
 
 
+def plain_way(back):
+    """The plain way that reads links on alone, or back, too."""
+    return "plain.back" if back else "plain"
+
+
 def points_met(rooms, point, back=False):
     """Yields the points that come about from a point, in the order in which they are met."""
     need_rooms(rooms)
     need_point(rooms, point)
     need_few_places(rooms)
     field = Field(rooms)
-    for met in points_about(field, point_mask(field, point), back):
+    for met in points_about(PointWalk(field, plain_way(back)), point_mask(field, point)):
         yield field.places_in(met)
 
 
@@ -55,5 +60,6 @@ def point_leads(rooms, point, link, back=False):
         raise NoLink(link)
     need_few_places(rooms)
     field = Field(rooms)
-    led = led_points(field.link_rows(link, back), point_mask(field, point))
-    return tuple([field.places_in(mask) for mask in led])
+    rows = field.link_rows(link, back)
+    led = led_points([rows[number] for number in bits_of(point_mask(field, point))])
+    return tuple([field.places_in(mask) for mask in in_order(led)])

@@ -1,48 +1,141 @@
 """Points as masks of places: where links lead from them, and which come about."""
 
-from sayable.bits import bits_of
+from sayable.alike import Step
+from sayable.bits import bits_of, count_of
 from sayable.errors import TooMany
 
 MOST_CHOICES = 5000
 MOST_POINTS = 5000
 
 
-def _need_few_choices(counts):
+def has_few_choices(heads):
+    """Whether the choices are no more than may be; the heads of each place are told as a mask."""
     choices = 1
-    for many in counts:
-        choices = choices * many
-    if choices > MOST_CHOICES:
+    for mask in heads:
+        choices = choices * count_of(mask)
+    return choices <= MOST_CHOICES
+
+
+def led_points(heads):
+    """The points that are made by choosing one of each of the heads, each once, in a fixed order."""
+    if not has_few_choices(heads):
         raise TooMany("choices", MOST_CHOICES)
-
-
-def led_points(rows, point):
-    """The points to which a link with these rows leads from a point, in their order."""
-    heads = [bits_of(rows[number]) for number in bits_of(point)]
-    _need_few_choices([len(row) for row in heads])
-    if [] in heads:
+    if 0 in heads:
         return []
     made = [0]
-    for row in heads:
+    for mask in heads:
+        row = [1 << head for head in bits_of(mask)]
         # Many choices make the same point: each is kept once, from the first place on.
-        made = list({one | 1 << head: True for one in made for head in row})
-    return sorted(made, key=bits_of)
+        made = list({one | bit: True for one in made for bit in row})
+    return made
 
 
-def points_about(field, point, back):
+def in_order(points):
+    """The points, as masks, in the order of points."""
+    return sorted(points, key=bits_of)
+
+
+def _is_least(heads, point):
+    """Whether a point that is made by choosing from the heads needs each of its places."""
+    needed = 0
+    for mask in heads:
+        shared = mask & point
+        if shared & (shared - 1) == 0:
+            needed = needed | shared
+    return needed == point
+
+
+class PointWalk:
+    """Where the links of a field, as a plain way reads them, lead from points."""
+
+    def __init__(self, field, way):
+        self.field = field
+        self.step = Step(field, way)
+        self.turns = list(range(len(self.step.links_read)))
+        # Points whose places have the same heads are led to the same points.
+        self._led = {}
+        self._least = {}
+
+    def heads_of(self, at, point):
+        """The heads of the places of a point by the link with this number, as a tuple of masks."""
+        rows = self.step.heads[at]
+        return tuple(sorted([rows[number] for number in bits_of(point)]))
+
+    def led(self, at, point):
+        """The points to which the link with this number leads from a point."""
+        heads = self.heads_of(at, point)
+        if heads not in self._led:
+            self._led[heads] = led_points(heads)
+        return self._led[heads]
+
+    def least_led(self, at, point):
+        """Those of them that have no other one within them: what is like these is like all."""
+        heads = self.heads_of(at, point)
+        if heads not in self._least:
+            self._least[heads] = [one for one in self.led(at, point) if _is_least(heads, one)]
+        return self._least[heads]
+
+    def first_mask(self, point):
+        """The places of which each word holds that holds of the point."""
+        mask = self.field.whole
+        for word in self.field.words:
+            held = self.field.word_mask(word)
+            if point & ~held == 0:
+                mask = mask & held
+        return mask
+
+    def has_few(self, point):
+        """Whether the point has no more choices than may be, by each link."""
+        return all([has_few_choices(self.heads_of(at, point)) for at in self.turns])
+
+
+def points_about(walk, point):
     """The points that come about from a point, in the order in which they are met."""
-    links_read = [field.link_rows(link, way) for link, way in field.ways_to_read(back)]
     met = [point]
     known = {point: True}
     turn = 0
     while turn < len(met):
         now = met[turn]
-        for rows in links_read:
-            led = led_points(rows, now)
-            for one in led:
-                if one not in known:
-                    if len(met) == MOST_POINTS:
-                        raise TooMany("points", MOST_POINTS)
-                    known[one] = True
-                    met.append(one)
+        for at in walk.turns:
+            fresh = [one for one in walk.led(at, now) if one not in known]
+            for one in in_order(fresh):
+                if len(met) == MOST_POINTS:
+                    raise TooMany("points", MOST_POINTS)
+                known[one] = True
+                met.append(one)
         turn += 1
     return met
+
+
+def point_table(walk, met):
+    """For each met point and each place the round at which the pair parts; None if it never does."""
+    numbers = {point: number for number, point in enumerate(met)}
+    leading = [[[numbers[led] for led in walk.least_led(at, point)] for at in walk.turns] for point in met]
+    behind = [[] for _ in met]
+    for number, row in enumerate(leading):
+        for led in sorted({one for ones in row for one in ones}):
+            behind[led].append(number)
+    like = [walk.first_mask(point) for point in met]
+    table = [[None if mask >> place & 1 else 0 for place in range(walk.field.many)] for mask in like]
+    turn = 0
+    waiting = list(range(len(met)))
+    while waiting:
+        turn += 1
+        # A pair can part only now if what it leads to parted in the round before.
+        passed = {number: _passing(walk, like, leading[number], like[number]) for number in waiting}
+        turned = [number for number in waiting if passed[number] != like[number]]
+        for number in turned:
+            for place in bits_of(like[number] & ~passed[number]):
+                table[number][place] = turn
+            like[number] = passed[number]
+        waiting = sorted({one for number in turned for one in behind[number]})
+    return table
+
+
+def _passing(walk, like, leading, places):
+    """Those of the places that pass the step with a point, within what is like the points to which it leads."""
+    for at in walk.turns:
+        for led in leading[at]:
+            if places:
+                places = places & walk.step.leading_to(at, like[led])
+    return places

@@ -39,11 +39,11 @@ class Case(unittest.TestCase):
         self.assertEqual(self.told(function, *args, **more), wanted, (function, args, more))
 
 
-def drawn_room(rng, most=5, words=2, links=2, scales=0, prefix="t"):
+def drawn_room(rng, most=5, words=2, links=2, scales=0, prefix="t", ties=0.4):
     things = [f"{prefix}{number}" for number in range(rng.randint(1, most))]
     rng.shuffle(things)
     held = {f"w{k}": [t for t in things if rng.random() < 0.5] for k in range(words)}
-    led = {f"l{k}": [(t, u) for t in things for u in things if rng.random() < 0.4] for k in range(links)}
+    led = {f"l{k}": [(t, u) for t in things for u in things if rng.random() < ties] for k in range(links)}
     numbers = {f"s{k}": {t: rng.randint(-2, 2) for t in things if rng.random() < 0.7} for k in range(scales)}
     return Room(things, held, led, numbers)
 

@@ -155,3 +155,146 @@ def some_sayings(rng, room, way, many, drawn_saying):
             saying = Saying([tuple("on" if item == "back" else item for item in part) for part in saying.parts])
         found.append(saying)
     return found
+
+
+def word_holds(rooms, word, point):
+    return all(rooms[index].holds(word, thing) for index, thing in point)
+
+
+def point_first(rooms, point, place):
+    """Whether a pair of a point and a place passes round 0, by point 10."""
+    return all(rooms[place[0]].holds(word, place[1]) for word in rooms[0].words if word_holds(rooms, word, point))
+
+
+def point_step(rooms, way, point, place, pairs):
+    for link, back in links_read(rooms, way):
+        for led_to in point_leads(rooms, point, link, back):
+            if not any((led_to, head) in pairs for head in heads_of(rooms, link, place, back)):
+                return False
+    return True
+
+
+def point_likes(rooms, way, point):
+    """For 0, 1, 2 .. rounds, as long as they differ, the pairs of the points that come about that are like for them."""
+    points = points_met(rooms, point, way.endswith(".back"))
+    leads = {(one, link, back): point_leads(rooms, one, link, back) for one in points for link, back in links_read(rooms, way)}
+    first = {(one, place) for one in points for place in places(rooms) if point_first(rooms, one, place)}
+    found = [first]
+    while True:
+        ahead = found[-1]
+        passed = {(one, place) for one, place in first if all(
+            any((led_to, head) in ahead for head in heads_of(rooms, link, place, back))
+            for link, back in links_read(rooms, way) for led_to in leads[(one, link, back)])}
+        if passed == ahead:
+            return found
+        found.append(passed)
+
+
+def pair_first(rooms, way, point, place):
+    """Round 0 of a pair of a point of a book and a place, by point 11."""
+    if way.startswith("plain"):
+        return point_first(rooms, point, place)
+    return passes_zero(rooms, way, point[0], place)
+
+
+def pair_step(rooms, way, point, place, pairs):
+    if way.startswith("plain"):
+        return point_step(rooms, way, point, place, pairs)
+    return passes_step(rooms, way, point[0], place, {(one[0], other) for one, other in pairs})
+
+
+def closed_under(way, crowds, whole):
+    """All crowds that come of these by the parts that a way lets, but for those that bear a link."""
+    kinds = kinds_let(way)
+    made = set(crowds)
+    while True:
+        more = {one & other for one in made for other in made}
+        if "either" in kinds:
+            more |= {one | other for one in made for other in made}
+        if "not" in kinds:
+            more |= {whole - one for one in made}
+        if more <= made:
+            return made
+        made |= more
+
+
+def crowd_levels(rooms, way):
+    """For each depth the crowds, of places, to which the sayings of at most this depth read; further depths add none."""
+    whole = frozenset(places(rooms))
+    words = [frozenset(place for place in whole if word_holds(rooms, word, [place])) for word in rooms[0].words]
+    levels = [closed_under(way, [whole, frozenset(), *words], whole)]
+    kinds = kinds_let(way)
+    heads = [{place: heads_of(rooms, link, place, back) for place in whole} for link, back in links_read(rooms, way)]
+    while True:
+        more = set(levels[-1])
+        for led_to in heads:
+            for crowd in levels[-1]:
+                more.add(frozenset(p for p in whole if any(head in crowd for head in led_to[p])))
+                if "every" in kinds:
+                    more.add(frozenset(p for p in whole if all(head in crowd for head in led_to[p])))
+                if "least" in kinds:
+                    more |= {frozenset(p for p in whole if sum(head in crowd for head in led_to[p]) >= n) for n in range(2, 7)}
+        more = closed_under(way, more, whole)
+        if more == levels[-1]:
+            return levels
+        levels.append(more)
+
+
+def depth_said(levels, meant):
+    """The least depth at which a crowd is among the levels, or None."""
+    return next((depth for depth, level in enumerate(levels) if frozenset(meant) in level), None)
+
+
+def book_points(book, way):
+    meant = book.meant_places()
+    if way.startswith("plain"):
+        return [meant] if meant else []
+    return [(place,) for place in meant]
+
+
+def is_good_pair(book, way, pair):
+    """Whether this is a pair of a point and a place of the book's rooms, told with tuples and integers."""
+    order = places(book.rooms)
+
+    def is_good_place(place):
+        return isinstance(place, tuple) and len(place) == 2 and type(place[0]) is int and place in order
+
+    if not isinstance(pair, tuple) or len(pair) != 2 or not isinstance(pair[0], tuple) or not pair[0]:
+        return False
+    if not is_good_place(pair[1]) or not all(is_good_place(place) for place in pair[0]):
+        return False
+    at = [order.index(place) for place in pair[0]]
+    return at == sorted(set(at)) and (way.startswith("plain") or len(at) == 1)
+
+
+def is_stage(rooms, way, pairs, ahead):
+    return all(pair_first(rooms, way, *pair) and (ahead is None or pair_step(rooms, way, *pair, ahead)) for pair in pairs)
+
+
+def shows_pair(book, way, value, pairs):
+    return ((value.point, value.place) in pairs and value.point in book_points(book, way)
+            and value.place in book.other_places())
+
+
+def shows_said(book, way, value):
+    """Reads a Said or an Unsaid, of small rooms, by the words of the document."""
+    if type(value).__name__ == "Unsaid":
+        good = isinstance(value.pairs, tuple) and all(is_good_pair(book, way, pair) for pair in value.pairs)
+        return good and shows_pair(book, way, value, value.pairs) and is_stage(book.rooms, way, value.pairs, value.pairs)
+    saying, stages = value.saying, value.stages
+    if not isinstance(saying, Saying) or any(kind not in kinds_let(way) for kind in saying.kinds):
+        return False
+    if saying.is_back and not way.endswith(".back") or set(saying.links) - set(book.rooms[0].links):
+        return False
+    if set(saying.words) - set(book.rooms[0].words) or tuple(reading(room, saying) for room in book.rooms) != book.meant:
+        return False
+    if not isinstance(stages, tuple) or len(stages) != saying.depth:
+        return False
+    if not stages:
+        return value.point is None and value.place is None
+    for at, stage in enumerate(stages):
+        if not isinstance(stage, tuple) or not all(is_good_pair(book, way, pair) for pair in stage):
+            return False
+        if not is_stage(book.rooms, way, stage, stages[at - 1] if at else None):
+            return False
+    return shows_pair(book, way, value, stages[-1])
