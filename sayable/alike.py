@@ -61,7 +61,9 @@ class Step:
         if self.asks_each:
             reach = joined_masks(rows, heads[one])
             others = others & ~self.leading_to(at, self.whole & ~reach)
-        if self.asks_partners:
+        if self.asks_all_partners and not ones:
+            return others & ~self.leading_to(at, self.whole)
+        if self.asks_partners and ones:
             for other in bits_of(others):
                 if not self._has_partners(ones, rows, heads[other]):
                     others = others ^ 1 << other

@@ -6,7 +6,30 @@ from sayable.errors import BadRoom
 from sayable.lists import need_once
 from sayable.needs import need_rooms
 from sayable.said import least_depth, say_book
+from sayable.speech import speaker_of
 from sayable.ways import need_way
+
+
+def word_places(rooms, word):
+    """The places of which a word holds."""
+    return [(index, thing) for index, room in enumerate(rooms) for thing in room.things_of(word)]
+
+
+def words_without(rooms, names):
+    """The words of the stock that are none of the names, ascending."""
+    return [word for word in rooms[0].words if word not in names]
+
+
+def first_lacking(rooms, names, speaker):
+    """The first other word that is not explained by the names, with the Speech of its things; None if there is none.
+
+    The speaker is that of the rooms cut to the names.
+    """
+    for word in words_without(rooms, names):
+        speech = speaker.speech(word_places(rooms, word))
+        if not speech.is_said():
+            return word, speech
+    return None
 
 
 def explain_word(rooms, name, way):
@@ -28,11 +51,10 @@ def is_enough(rooms, names, way):
     need_rooms(rooms)
     need_names(rooms, names)
     need_way(way)
-    left = [room.cut(words=names) for room in rooms]
-    for word in rooms[0].words:
-        if word not in names and least_depth(Book(left, [room.things_of(word) for room in rooms]), way) is None:
-            return False
-    return True
+    if not words_without(rooms, names):
+        return True
+    speaker = speaker_of(rooms, way)
+    return first_lacking(rooms, names, speaker.with_words(names)) is None
 
 
 def needless_words(rooms, way):

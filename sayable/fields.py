@@ -4,14 +4,17 @@ from sayable.bits import bits_of
 
 
 class Field:
-    """All places of some rooms of one stock, in order: place n is bit n of each mask."""
+    """All places of some rooms of one stock, in order: place n is bit n of each mask.
 
-    def __init__(self, rooms):
+    Words tells the only ones that count; None: all of the stock.
+    """
+
+    def __init__(self, rooms, words=None):
         self.rooms = tuple(rooms)
         self.all_places = tuple([(index, thing) for index, room in enumerate(rooms) for thing in room.things])
         self.many = len(self.all_places)
         self.whole = (1 << self.many) - 1
-        self.words = rooms[0].words
+        self.words = rooms[0].words if words is None else tuple(words)
         self.links = rooms[0].links
         self._numbers = {place: number for number, place in enumerate(self.all_places)}
         self._starts = [self._numbers[(index, room.things[0])] for index, room in enumerate(rooms)]

@@ -8,7 +8,7 @@ from sayable.alike import Step, first_rows
 from sayable.checks import is_list
 from sayable.needs import is_place
 from sayable.points import is_point, point_mask
-from sayable.pointwalk import PointWalk
+from sayable.pointwalk import PointWalk, first_mask
 
 
 class PlacePairs:
@@ -68,7 +68,7 @@ class PointPairs:
 
     def are_first(self, rows):
         """Whether all pairs pass round 0."""
-        return all([rows[point] & ~self.walk.first_mask(point) == 0 for point in rows])
+        return all([rows[point] & ~first_mask(self.field, point) == 0 for point in rows])
 
     def are_stepping(self, rows, ahead):
         """Whether all pairs pass the step within those ahead."""

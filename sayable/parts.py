@@ -26,6 +26,19 @@ SAYING_KINDS = (
     ("above", ("scale", "word")),
 )
 
+TIE_KINDS = (
+    ("same", ()),
+    ("any", ()),
+    ("none", ()),
+    ("link", ("link",)),
+    ("of", ("word",)),
+    ("both", ("part", "part")),
+    ("either", ("part", "part")),
+    ("not", ("part",)),
+    ("turned", ("part",)),
+    ("over", ("part", "part")),
+)
+
 
 def _can_stand(item, code, ahead):
     """Whether any value can be an item with this code of a part with so many ahead."""

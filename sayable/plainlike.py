@@ -5,6 +5,7 @@ from sayable.needs import need_few_places, need_place, need_rooms, need_rounds
 from sayable.partings import Partings
 from sayable.pointrounds import PointRounds
 from sayable.points import need_point, plain_way, point_mask
+from sayable.pointwalk import PointWalk
 
 
 def _need_pair(rooms, point, place):
@@ -18,7 +19,8 @@ def point_rounds(rooms, point, back):
     """The rounds at which this point, number 0, and those that come about from it part from places."""
     need_few_places(rooms)
     field = Field(rooms)
-    return PointRounds(field, plain_way(back), point_mask(field, point))
+    walk = PointWalk(field, plain_way(back))
+    return PointRounds(field, walk.web(point_mask(field, point)))
 
 
 def is_like_point(rooms, point, place, back=False, rounds=None):

@@ -7,7 +7,7 @@ which it leads from the place.
 
 from sayable.alike import like_mask
 from sayable.bits import bits_of
-from sayable.pointwalk import PointWalk, point_table, points_about
+from sayable.pointwalk import point_table
 
 
 class PointRounds:
@@ -16,12 +16,12 @@ class PointRounds:
     One is the number of a point, in the order in which they are met; other that of a place.
     """
 
-    def __init__(self, field, way, point):
+    def __init__(self, field, web):
         self.field = field
-        self._walk = PointWalk(field, way)
-        self._met = points_about(self._walk, point)
-        self._numbers = {mask: number for number, mask in enumerate(self._met)}
-        self.table = point_table(self._walk, self._met)
+        self.table = point_table(field, web)
+        self._walk = web.walk
+        self._met = web.met
+        self._numbers = web.numbers
 
     def point_of(self, one):
         """The point with this number."""

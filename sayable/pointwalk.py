@@ -49,12 +49,12 @@ class PointWalk:
     """Where the links of a field, as a plain way reads them, lead from points."""
 
     def __init__(self, field, way):
-        self.field = field
         self.step = Step(field, way)
         self.turns = list(range(len(self.step.links_read)))
         # Points whose places have the same heads are led to the same points.
         self._led = {}
         self._least = {}
+        self._webs = {}
 
     def heads_of(self, at, point):
         """The heads of the places of a point by the link with this number, as a tuple of masks."""
@@ -75,18 +75,42 @@ class PointWalk:
             self._least[heads] = [one for one in self.led(at, point) if _is_least(heads, one)]
         return self._least[heads]
 
-    def first_mask(self, point):
-        """The places of which each word holds that holds of the point."""
-        mask = self.field.whole
-        for word in self.field.words:
-            held = self.field.word_mask(word)
-            if point & ~held == 0:
-                mask = mask & held
-        return mask
-
     def has_few(self, point):
         """Whether the point has no more choices than may be, by each link."""
         return all([has_few_choices(self.heads_of(at, point)) for at in self.turns])
+
+    def web(self, point):
+        """The PointWeb of a point: no word counts for it, so one serves whatever words there are."""
+        if point not in self._webs:
+            self._webs[point] = PointWeb(self, point)
+        return self._webs[point]
+
+
+class PointWeb:
+    """The points that come about from a point, and to which of them links lead from each."""
+
+    def __init__(self, walk, point):
+        self.walk = walk
+        self.met = points_about(walk, point)
+        self.numbers = {one: number for number, one in enumerate(self.met)}
+        self.leading = [[self._least_numbers(at, one) for at in walk.turns] for one in self.met]
+        self.behind = [[] for _ in self.met]
+        for number, row in enumerate(self.leading):
+            for led in sorted({one for ones in row for one in ones}):
+                self.behind[led].append(number)
+
+    def _least_numbers(self, at, point):
+        return [self.numbers[led] for led in self.walk.least_led(at, point)]
+
+
+def first_mask(field, point):
+    """The places of which each word holds that holds of the point."""
+    mask = field.whole
+    for word in field.words:
+        held = field.word_mask(word)
+        if point & ~held == 0:
+            mask = mask & held
+    return mask
 
 
 def points_about(walk, point):
@@ -107,35 +131,30 @@ def points_about(walk, point):
     return met
 
 
-def point_table(walk, met):
-    """For each met point and each place the round at which the pair parts; None if it never does."""
-    numbers = {point: number for number, point in enumerate(met)}
-    leading = [[[numbers[led] for led in walk.least_led(at, point)] for at in walk.turns] for point in met]
-    behind = [[] for _ in met]
-    for number, row in enumerate(leading):
-        for led in sorted({one for ones in row for one in ones}):
-            behind[led].append(number)
-    like = [walk.first_mask(point) for point in met]
-    table = [[None if mask >> place & 1 else 0 for place in range(walk.field.many)] for mask in like]
+def point_table(field, web):
+    """For each point of a web and each place the round at which the pair parts; None if it never does."""
+    like = [first_mask(field, point) for point in web.met]
+    table = [[None if mask >> place & 1 else 0 for place in range(field.many)] for mask in like]
     turn = 0
-    waiting = list(range(len(met)))
+    waiting = list(range(len(web.met)))
     while waiting:
         turn += 1
         # A pair can part only now if what it leads to parted in the round before.
-        passed = {number: _passing(walk, like, leading[number], like[number]) for number in waiting}
+        passed = {number: _passing(web, like, number) for number in waiting}
         turned = [number for number in waiting if passed[number] != like[number]]
         for number in turned:
             for place in bits_of(like[number] & ~passed[number]):
                 table[number][place] = turn
             like[number] = passed[number]
-        waiting = sorted({one for number in turned for one in behind[number]})
+        waiting = sorted({one for number in turned for one in web.behind[number]})
     return table
 
 
-def _passing(walk, like, leading, places):
-    """Those of the places that pass the step with a point, within what is like the points to which it leads."""
-    for at in walk.turns:
-        for led in leading[at]:
+def _passing(web, like, number):
+    """Those of the places like a point that pass the step with it, within what is like where it leads."""
+    places = like[number]
+    for at in web.walk.turns:
+        for led in web.leading[number][at]:
             if places:
-                places = places & walk.step.leading_to(at, like[led])
+                places = places & web.walk.step.leading_to(at, like[led])
     return places

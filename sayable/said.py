@@ -2,7 +2,7 @@
 
 from sayable.books import need_book
 from sayable.papers import Denial, Paper
-from sayable.speech import Speech
+from sayable.speech import speech_of
 from sayable.support import closed_from, stages_to
 from sayable.ways import WAYS, need_way
 
@@ -23,11 +23,8 @@ class Unsaid(Denial):
         self.point, self.place, self.pairs = self.parts
 
 
-def say_book(book, way):
-    """A Said of the least depth, if the book is said in the way; otherwise an Unsaid."""
-    need_book(book)
-    need_way(way)
-    speech = Speech(book, way)
+def told_paper(speech):
+    """A Said of the least depth, if the book of a Speech is said; otherwise an Unsaid."""
     depth = speech.least_depth()
     if depth == 0:
         return Said(speech.told_saying(), None, None, ())
@@ -38,11 +35,18 @@ def say_book(book, way):
     return Said(speech.told_saying(), point, place, stages_to(speech.rounds, one, other, depth))
 
 
+def say_book(book, way):
+    """A Said of the least depth, if the book is said in the way; otherwise an Unsaid."""
+    need_book(book)
+    need_way(way)
+    return told_paper(speech_of(book, way))
+
+
 def least_depth(book, way):
     """The least depth of the sayings that say the book in the way; None if there is none."""
     need_book(book)
     need_way(way)
-    speech = Speech(book, way)
+    speech = speech_of(book, way)
     return speech.least_depth()
 
 

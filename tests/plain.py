@@ -298,3 +298,73 @@ def shows_said(book, way, value):
         if not is_stage(book.rooms, way, stage, stages[at - 1] if at else None):
             return False
     return shows_pair(book, way, value, stages[-1])
+
+
+def tie_fits(room, parts, at, one, other):
+    """Whether a part of a tie fits a couple, by the table of point 15."""
+    part = parts[at]
+    kind = part[0]
+    if kind in ("any", "none"):
+        return kind == "any"
+    if kind == "same":
+        return one == other
+    if kind == "link":
+        return other in room.leads(part[1], one)
+    if kind == "of":
+        return one == other and room.holds(part[1], one)
+    if kind == "both":
+        return tie_fits(room, parts, part[1], one, other) and tie_fits(room, parts, part[2], one, other)
+    if kind == "either":
+        return tie_fits(room, parts, part[1], one, other) or tie_fits(room, parts, part[2], one, other)
+    if kind == "not":
+        return not tie_fits(room, parts, part[1], one, other)
+    if kind == "turned":
+        return tie_fits(room, parts, part[1], other, one)
+    return any(tie_fits(room, parts, part[1], one, z) and tie_fits(room, parts, part[2], z, other) for z in room)
+
+
+def tie_pairs(room, tie):
+    return tuple((x, y) for x in room for y in room if tie_fits(room, tie.parts, len(tie.parts) - 1, x, y))
+
+
+def couples(rooms):
+    return [(k, x, y) for k, room in enumerate(rooms) for x in room for y in room]
+
+
+def are_akin(rooms, number, one, other):
+    """Whether two couples of one class agree, by what point 15 asks of a stable parting."""
+    (i, x, y), (k, u, v) = one, other
+    here, there = rooms[i], rooms[k]
+    if (x == y) != (u == v) or number[(i, y, x)] != number[(k, v, u)]:
+        return False
+    if any((y in here.leads(link, x)) != (v in there.leads(link, u)) for link in here.links):
+        return False
+    if x == y and any(here.holds(word, x) != there.holds(word, u) for word in here.words):
+        return False
+    return all(any(number[(i, x, z)] == number[(k, u, w)] and number[(i, z, y)] == number[(k, w, v)] for w in there) for z in here)
+
+
+def is_stable(rooms, classes):
+    number = {couple: at for at, group in enumerate(classes) for couple in group}
+    return all(are_akin(rooms, number, one, other) for group in classes for one in group for other in group)
+
+
+def coarsest(rooms):
+    """The coarsest stable parting: classes are parted as long as two of their couples do not agree."""
+    classes = [couples(rooms)]
+    while True:
+        number = {couple: at for at, group in enumerate(classes) for couple in group}
+        made = []
+        for group in classes:
+            rows = []
+            for couple in group:
+                home = next((row for row in rows if are_akin(rooms, number, row[0], couple) and are_akin(rooms, number, couple, row[0])), None)
+                if home is None:
+                    rows.append([couple])
+                else:
+                    home.append(couple)
+            made.extend(rows)
+        if len(made) == len(classes):
+            order = couples(rooms)
+            return tuple(tuple(row) for row in sorted(made, key=lambda row: order.index(row[0])))
+        classes = made

@@ -115,7 +115,7 @@ class Package(unittest.TestCase):
 
     def test_imports(self):
         above = {}
-        defined = {}
+        defined = {"math": {"comb"}}
         for path, tree in self.trees.items():
             module = f"sayable.{path.stem}"
             defined[module] = {x.name for x in tree.body if isinstance(x, (ast.FunctionDef, ast.ClassDef))}
@@ -169,6 +169,7 @@ class Package(unittest.TestCase):
         methods = {}
         for where, node in self.each_node(ast.ClassDef):
             self.assertEqual(node.decorator_list, [], where)
+            self.assertRegex(node.name, "^[A-Z]", where)
             own = [x for x in node.body if isinstance(x, ast.FunctionDef)]
             self.assertEqual(len(own), len({x.name for x in own}), where)
             for method in own:

@@ -15,6 +15,16 @@ class RoomText(Case):
         for text in ("a ; ; ;", "a ; w ; ;", "a ; ; l ; s", "a ; ; ; s / t a 0", "b a ; w b a ; l b a a b ; s b -1 a 10"):
             self.assertEqual(str(Room.read(text)), text)
 
+    def test_words_that_stand_nowhere(self):
+        rng = drawing(3)
+        for _ in range(60):
+            words = str(drawn_room(rng, 4, rng.randint(0, 3), rng.randint(0, 2), rng.randint(0, 2))).split(" ")
+            for at in range(len(words) + 1):
+                for odd in ("?", "", "A", "02", "+1", "--1", "-0", "1234567890", "\t", "w0\n"):
+                    self.fails(at, " ".join(words[:at] + [odd] + words[at + 1:]))
+                    self.fails(at, " ".join(words[:at] + [odd] + words[at:]))
+            self.fails(0, " " + " ".join(words))
+
     def test_no_string(self):
         for value in ODD_VALUES + (["a ; ; ;"], b"a ; ; ;"):
             if not isinstance(value, str):

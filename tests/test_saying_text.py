@@ -68,6 +68,16 @@ class SayingText(Case):
         for text in ("word b / word a / both 0 1", "word a / word b / both 0 1 / both 0 2"):
             self.assertEqual(str(Saying.read(text)), text)
 
+    def test_words_that_stand_nowhere(self):
+        rng = drawing(9)
+        for _ in range(60):
+            words = str(drawn_saying(rng, drawn_room(rng, 2, 2, 2, 1), 8)).split(" ")
+            for at in range(len(words) + 1):
+                for odd in ("?", "", "A", "02", "+1", "--1", "1234567890", "\t", "w0\n"):
+                    self.fails(at, " ".join(words[:at] + [odd] + words[at + 1:]))
+                    self.fails(at, " ".join(words[:at] + [odd] + words[at:]))
+            self.fails(0, " " + " ".join(words))
+
     def test_one_word_off(self):
         rng = drawing(8)
         for _ in range(300):
