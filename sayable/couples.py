@@ -80,7 +80,7 @@ class Couples:
             colors[pair] = numbers[told[pair]]
         return colors
 
-    def rounds(self):
+    def refined(self):
         """The partings, each refined by the one ahead of it; the last one is stable, and the coarsest one."""
         found = [self.first_colors()]
         while True:

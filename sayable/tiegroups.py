@@ -22,7 +22,7 @@ def tie_classes(rooms):
     need_rooms(rooms)
     need_few_couples(rooms)
     couples = Couples(Field(rooms))
-    rounds = couples.rounds()
+    rounds = couples.refined()
     return told_classes(couples, rounds[-1])
 
 
@@ -35,5 +35,5 @@ def are_parted(rooms, one, other):
         raise BadTie("other")
     need_few_couples(rooms)
     couples = Couples(Field(rooms))
-    colors = couples.rounds()[-1]
+    colors = couples.refined()[-1]
     return colors[couples.number_pair(one)] != colors[couples.number_pair(other)]

@@ -50,7 +50,7 @@ class Meaning:
         told = meant_couples(rooms, meant)
         need_few_couples(rooms)
         self.couples = Couples(Field(rooms))
-        self.rounds = self.couples.rounds()
+        self.rounds = self.couples.refined()
         self.colors = self.rounds[-1]
         self.meant = {self.couples.number_pair(couple): True for couple in told}
         self.classes = {self.colors[pair]: True for pair in self.meant}
@@ -87,7 +87,7 @@ def class_ties(rooms):
     need_few_couples(rooms)
     couples = Couples(Field(rooms))
     maker = TieMaker(couples)
-    return tuple([maker.tie_of(number) for number in maker.class_numbers(couples.rounds())])
+    return tuple([maker.tie_of(number) for number in maker.class_numbers(couples.refined())])
 
 
 def pairs_around(rooms, meant):
