@@ -94,13 +94,19 @@ class PointWeb:
         self.met = points_about(walk, point)
         self.numbers = {one: number for number, one in enumerate(self.met)}
         self.leading = [[self._least_numbers(at, one) for at in walk.turns] for one in self.met]
-        self.behind = [[] for _ in self.met]
-        for number, row in enumerate(self.leading):
-            for led in sorted({one for ones in row for one in ones}):
-                self.behind[led].append(number)
+        self.led_from = _turned(self.leading)
 
     def _least_numbers(self, at, point):
         return [self.numbers[led] for led in self.walk.least_led(at, point)]
+
+
+def _turned(leading):
+    """For each number those whose rows lead to it, ascending."""
+    found = [[] for _ in leading]
+    for number, row in enumerate(leading):
+        for led in sorted({one for ones in row for one in ones}):
+            found[led].append(number)
+    return found
 
 
 def first_mask(field, point):
@@ -146,7 +152,7 @@ def point_table(field, web):
             for place in bits_of(like[number] & ~passed[number]):
                 table[number][place] = turn
             like[number] = passed[number]
-        waiting = sorted({one for number in turned for one in web.behind[number]})
+        waiting = sorted({one for number in turned for one in web.led_from[number]})
     return table
 
 

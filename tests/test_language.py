@@ -48,6 +48,22 @@ def bound_names(node):
     return found
 
 
+def root_of(node):
+    """The name with which an expression of attributes, items and calls begins."""
+    while isinstance(node, (ast.Attribute, ast.Subscript, ast.Call)):
+        node = node.func if isinstance(node, ast.Call) else node.value
+    return node.id if isinstance(node, ast.Name) else None
+
+
+def changed_in(statement):
+    """What is changed by its methods, items or attributes."""
+    for node in ast.walk(statement):
+        if isinstance(node, ast.Call) and isinstance(node.func, ast.Attribute) and node.func.attr in CHANGES:
+            yield node.func.value
+        if isinstance(node, (ast.Subscript, ast.Attribute)) and isinstance(node.ctx, (ast.Store, ast.Del)):
+            yield node.value
+
+
 class Package(unittest.TestCase):
     @classmethod
     def setUpClass(cls):
@@ -229,15 +245,13 @@ class Package(unittest.TestCase):
         self.assertEqual(stores, 1, where)
 
     def test_loops_leave_what_they_go_over(self):
+        """Neither by its name nor by another field of the object that has it."""
         for where, node in self.each_node(ast.For):
-            over = {ast.unparse(x) for x in ast.walk(node.iter) if isinstance(x, (ast.Name, ast.Attribute))}
+            gone_over = [x for x in ast.walk(node.iter) if isinstance(x, (ast.Name, ast.Attribute))]
+            roots = {root_of(x) for x in gone_over} - {None}
             for inner in node.body:
-                for call in ast.walk(inner):
-                    if isinstance(call, ast.Call) and isinstance(call.func, ast.Attribute) and call.func.attr in CHANGES:
-                        changed = ast.unparse(call.func.value)
-                        self.assertNotIn(changed, over - {"self"}, where)
-                    if isinstance(call, ast.Subscript) and isinstance(call.ctx, (ast.Store, ast.Del)):
-                        self.assertNotIn(ast.unparse(call.value), over, where)
+                for changed in changed_in(inner):
+                    self.assertNotIn(root_of(changed), roots, f"{where}: {ast.unparse(changed)}")
 
     def test_calls(self):
         for path, tree in self.trees.items():
