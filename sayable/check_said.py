@@ -5,9 +5,8 @@ from sayable.errors import TooMany
 from sayable.fields import Field
 from sayable.needs import has_few_places
 from sayable.pairread import PlacePairs, PointPairs, are_closed_pairs, are_stages
-from sayable.points import point_mask
 from sayable.pointwalk import PointWalk, points_about
-from sayable.reads import read_mask
+from sayable.reads import are_readings
 from sayable.said import Said, Unsaid
 from sayable.sayings import Saying
 from sayable.ways import base_of, need_way, way_lets
@@ -41,7 +40,7 @@ def _is_asked(book, way):
     if _is_plain(way) and book.meant_places():
         field = Field(book.rooms)
         try:
-            points_about(PointWalk(field, way), point_mask(field, book.meant_places()))
+            points_about(PointWalk(field, way), field.mask_of_places(book.meant_places()))
         except TooMany:
             return False
     return True
@@ -51,11 +50,7 @@ def is_said_by(book, way, saying):
     """Whether any value is a Saying, with words and links of the stock alone, that says the book in the way."""
     if not isinstance(saying, Saying) or not way_lets(way, saying):
         return False
-    words, links, _ = book.rooms[0].stock
-    if not all([word in words for word in saying.words]) or not all([link in links for link in saying.links]):
-        return False
-    read = [room.things_in(read_mask(room, saying, {})) for room in book.rooms]
-    return tuple(read) == book.meant
+    return are_readings(book.rooms, saying, book.meant)
 
 
 def _shows_depth(book, pairs, value):

@@ -1,6 +1,7 @@
 """The places of some rooms of one stock, numbered, with what is told of them as masks."""
 
-from sayable.bits import bits_of
+from sayable.bits import bits_of, mask_of
+from sayable.fits import scaled_mask
 
 
 class Field:
@@ -16,8 +17,9 @@ class Field:
         self.whole = (1 << self.many) - 1
         self.words = rooms[0].words if words is None else tuple(words)
         self.links = rooms[0].links
+        self.scales = rooms[0].scales
         self._numbers = {place: number for number, place in enumerate(self.all_places)}
-        self._starts = [self._numbers[(index, room.things[0])] for index, room in enumerate(rooms)]
+        self.starts = [self._numbers[(index, room.things[0])] for index, room in enumerate(rooms)]
         self._masks = {word: self._joined_mask(word) for word in self.words}
         self._rows = {(link, back): self._joined_rows(link, back) for link in self.links for back in (False, True)}
 
@@ -31,8 +33,18 @@ class Field:
 
     def crowds_in(self, mask):
         """For each room the things of the places of a mask, in order."""
-        places = self.places_in(mask)
-        return tuple([tuple([thing for at, thing in places if at == index]) for index in range(len(self.rooms))])
+        crowds = [[] for _ in self.rooms]
+        for index, thing in self.places_in(mask):
+            crowds[index].append(thing)
+        return tuple([tuple(crowd) for crowd in crowds])
+
+    def mask_of_places(self, places):
+        """The mask of told places."""
+        return mask_of([self.number_of_place(place) for place in places])
+
+    def room_masks(self):
+        """For each room the mask of its places."""
+        return [(1 << len(room)) - 1 << start for start, room in zip(self.starts, self.rooms)]
 
     def word_mask(self, word):
         """The places of which a word holds."""
@@ -42,15 +54,23 @@ class Field:
         """For each place the mask of those to which a link leads, read on or back."""
         return self._rows[(link, back)]
 
+    def scaled_places(self, kind, scale, mask):
+        """What of the mask a part that bears this scale fits, top or above, room by room."""
+        fitted = 0
+        for start, room in zip(self.starts, self.rooms):
+            here = mask >> start & (1 << len(room)) - 1
+            fitted = fitted | scaled_mask(kind, room.scale_row(scale), here) << start
+        return fitted
+
     def _joined_mask(self, word):
         mask = 0
-        for start, room in zip(self._starts, self.rooms):
+        for start, room in zip(self.starts, self.rooms):
             mask = mask | room.word_mask(word) << start
         return mask
 
     def _joined_rows(self, link, back):
         rows = []
-        for start, room in zip(self._starts, self.rooms):
+        for start, room in zip(self.starts, self.rooms):
             rows.extend([row << start for row in room.link_rows(link, back)])
         return tuple(rows)
 

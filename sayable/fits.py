@@ -1,6 +1,6 @@
 """What parts fit, as masks: of the things of a room, or of the places of several."""
 
-from sayable.bits import count_of
+from sayable.bits import bits_of, count_of, mask_of
 
 
 def fitted_mask(part, masks, whole, rows):
@@ -40,21 +40,25 @@ def _led_mask(part, mask, rows):
 
 def top_mask(numbers, mask):
     """Those of the mask that have a number, and none of the mask a greater one."""
-    told = [number for at, number in enumerate(numbers) if mask >> at & 1 and number is not None]
-    fitted = 0
-    for at, number in enumerate(numbers):
-        if mask >> at & 1 and number is not None and number == max(told):
-            fitted = fitted | 1 << at
-    return fitted
+    told = _numbers_in(numbers, mask)
+    greatest = max([number for _, number in told], default=None)
+    return mask_of([at for at, number in told if number == greatest])
 
 
 def above_mask(numbers, mask):
     """Those of the mask that have a number greater than those of more than half of the others."""
-    told = [number for at, number in enumerate(numbers) if mask >> at & 1 and number is not None]
-    fitted = 0
-    for at, number in enumerate(numbers):
-        if mask >> at & 1 and number is not None:
-            lesser = len([other for other in told if other < number])
-            if 2 * lesser > len(told) - 1:
-                fitted = fitted | 1 << at
-    return fitted
+    told = _numbers_in(numbers, mask)
+    lesser = {}
+    for at, number in enumerate(sorted([number for _, number in told])):
+        lesser.setdefault(number, at)
+    return mask_of([at for at, number in told if 2 * lesser[number] > len(told) - 1])
+
+
+def _numbers_in(numbers, mask):
+    """The pairs of those of the mask that have a number and this number."""
+    return [(at, numbers[at]) for at in bits_of(mask) if numbers[at] is not None]
+
+
+def scaled_mask(kind, numbers, mask):
+    """What of the mask a part that bears a scale fits: top of its part, above of its word."""
+    return top_mask(numbers, mask) if kind == "top" else above_mask(numbers, mask)

@@ -7,7 +7,7 @@ that the points have, of PointPairs a dict by the masks of the points.
 from sayable.alike import Step, first_rows
 from sayable.checks import is_list
 from sayable.needs import is_place
-from sayable.points import is_point, point_mask
+from sayable.points import is_point
 from sayable.pointwalk import PointWalk, first_mask
 
 
@@ -60,7 +60,7 @@ class PointPairs:
         for pair in value:
             if not _is_pair(self.field, pair):
                 return None
-            point = point_mask(self.field, pair[0])
+            point = self.field.mask_of_places(pair[0])
             rows[point] = rows.get(point, 0) | 1 << self.field.number_of_place(pair[1])
         if not all([self.walk.has_few(point) for point in rows]):
             return None
@@ -83,7 +83,7 @@ class PointPairs:
 
     def have_pair(self, rows, point, place):
         """Whether the pair of this point and this place is among them."""
-        row = rows.get(point_mask(self.field, point), 0)
+        row = rows.get(self.field.mask_of_places(point), 0)
         return row >> self.field.number_of_place(place) & 1 == 1
 
 

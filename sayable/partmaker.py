@@ -1,6 +1,7 @@
 """Making sayings part by part, with what each part fits at hand."""
 
-from sayable.fits import fitted_mask
+from sayable.parts import SAYING_KINDS, one_form
+from sayable.placeread import part_places
 from sayable.sayings import Saying
 
 
@@ -18,16 +19,8 @@ class PartMaker:
         if part not in self._numbers:
             self._numbers[part] = len(self.parts)
             self.parts.append(part)
-            self.masks.append(self._mask_of(part))
+            self.masks.append(part_places(self.field, part, self.masks, {}))
         return self._numbers[part]
-
-    def _mask_of(self, part):
-        if part[0] == "word":
-            return self.field.word_mask(part[1])
-        rows = ()
-        if part[0] in ("some", "every", "least"):
-            rows = self.field.link_rows(part[-3], part[-2] == "back")
-        return fitted_mask(part, self.masks, self.field.whole, rows)
 
     def does_fit(self, number, place):
         """Whether a part fits the place with this number."""
@@ -35,4 +28,4 @@ class PartMaker:
 
     def saying_of(self, number):
         """The saying whose last part this is."""
-        return Saying(self.parts[:number + 1])
+        return Saying(one_form(self.parts[:number + 1], SAYING_KINDS))

@@ -4,7 +4,7 @@ from sayable.fields import Field
 from sayable.needs import need_few_places, need_place, need_rooms, need_rounds
 from sayable.partings import Partings
 from sayable.pointrounds import PointRounds
-from sayable.points import need_point, plain_way, point_mask
+from sayable.points import need_point, plain_way
 from sayable.pointwalk import PointWalk
 
 
@@ -20,7 +20,7 @@ def point_rounds(rooms, point, back):
     need_few_places(rooms)
     field = Field(rooms)
     walk = PointWalk(field, plain_way(back))
-    return PointRounds(field, walk.web(point_mask(field, point)))
+    return PointRounds(field, walk.web(field.mask_of_places(point)))
 
 
 def is_like_point(rooms, point, place, back=False, rounds=None):

@@ -1,6 +1,6 @@
 """Points: several places that are spoken of together, in the plain ways."""
 
-from sayable.bits import bits_of, mask_of
+from sayable.bits import bits_of
 from sayable.checks import is_list
 from sayable.errors import BadPlace, NoLink
 from sayable.fields import Field
@@ -22,11 +22,6 @@ def need_point(rooms, point):
         raise BadPlace("point")
 
 
-def point_mask(field, point):
-    """The places of a point as a mask."""
-    return mask_of([field.number_of_place(place) for place in point])
-
-
 def plain_way(back):
     """The plain way that reads links on alone, or back, too."""
     return "plain.back" if back else "plain"
@@ -38,7 +33,7 @@ def points_met(rooms, point, back=False):
     need_point(rooms, point)
     need_few_places(rooms)
     field = Field(rooms)
-    for met in points_about(PointWalk(field, plain_way(back)), point_mask(field, point)):
+    for met in points_about(PointWalk(field, plain_way(back)), field.mask_of_places(point)):
         yield field.places_in(met)
 
 
@@ -48,7 +43,7 @@ def point_words(rooms, point):
     need_point(rooms, point)
     need_few_places(rooms)
     field = Field(rooms)
-    mask = point_mask(field, point)
+    mask = field.mask_of_places(point)
     return tuple([word for word in field.words if mask & ~field.word_mask(word) == 0])
 
 
@@ -61,5 +56,5 @@ def point_leads(rooms, point, link, back=False):
     need_few_places(rooms)
     field = Field(rooms)
     rows = field.link_rows(link, back)
-    led = led_points([rows[number] for number in bits_of(point_mask(field, point))])
+    led = led_points([rows[number] for number in bits_of(field.mask_of_places(point))])
     return tuple([field.places_in(mask) for mask in in_order(led)])

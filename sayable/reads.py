@@ -1,8 +1,9 @@
 """Reading sayings in rooms."""
 
 from sayable.errors import Twice
-from sayable.fits import above_mask, fitted_mask, top_mask
+from sayable.fits import fitted_mask, scaled_mask
 from sayable.needs import need_room, need_rooms, need_saying
+from sayable.sayings import Saying
 
 
 def _further_masks(room, more):
@@ -31,9 +32,9 @@ def _part_mask(room, part, masks, further):
     if kind == "word":
         return _word_mask(room, further, part[1])
     if kind == "top":
-        return top_mask(room.scale_row(part[1]), masks[part[2]])
+        return scaled_mask(kind, room.scale_row(part[1]), masks[part[2]])
     if kind == "above":
-        return above_mask(room.scale_row(part[1]), _word_mask(room, further, part[2]))
+        return scaled_mask(kind, room.scale_row(part[1]), _word_mask(room, further, part[2]))
     rows = ()
     if kind in ("some", "every", "least"):
         rows = room.link_rows(part[-3], part[-2] == "back")
@@ -49,6 +50,31 @@ def read_mask(room, saying, further):
     for part in saying.parts:
         masks.append(_part_mask(room, part, masks, further))
     return masks[-1]
+
+
+def need_in_stock(room, saying, further):
+    """Raises for the first part, in order, that names what the room has not; further words it has, too."""
+    for part in saying.parts:
+        if part[0] in ("top", "above"):
+            room.scale_row(part[1])
+        if part[0] in ("word", "above") and part[-1] not in further:
+            room.word_mask(part[-1])
+        if part[0] in ("some", "every", "least"):
+            room.link_rows(part[-3])
+
+
+def has_names(room, saying):
+    """Whether all words, links and scales of a saying are those of the room."""
+    if not all([word in room.words for word in saying.words]):
+        return False
+    return all([link in room.links for link in saying.links]) and all([scale in room.scales for scale in saying.scales])
+
+
+def are_readings(rooms, saying, crowds):
+    """Whether any value is a Saying, with names of the stock alone, whose readings in the rooms are these crowds."""
+    if not isinstance(saying, Saying) or not has_names(rooms[0], saying):
+        return False
+    return tuple([room.things_in(read_mask(room, saying, {})) for room in rooms]) == crowds
 
 
 def reading_of(room, saying, more=None):

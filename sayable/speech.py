@@ -1,6 +1,6 @@
 """Books in a way: whether they are said, how deep, and by what."""
 
-from sayable.bits import bits_of, mask_of
+from sayable.bits import bits_of
 from sayable.fields import Field
 from sayable.needs import need_few_places
 from sayable.partings import Partings
@@ -28,7 +28,7 @@ class Speaker:
 
     def speech(self, places):
         """The Speech in which these places are meant."""
-        meant = mask_of([self._field.number_of_place(place) for place in places])
+        meant = self._field.mask_of_places(places)
         if self._walk is not None:
             return Speech(PointRounds(self._field, self._walk.web(meant)), [0] if meant else [], meant)
         if self._rounds is None:

@@ -6,8 +6,7 @@ from sayable.bits import joined_masks, turned_rows
 def own_rows(field):
     """For each place the mask of the places of its room."""
     rows = []
-    for room in field.rooms:
-        whole = (1 << len(room)) - 1 << len(rows)
+    for room, whole in zip(field.rooms, field.room_masks()):
         rows.extend([whole] * len(room))
     return rows
 

@@ -131,7 +131,7 @@ class Package(unittest.TestCase):
 
     def test_imports(self):
         above = {}
-        defined = {"math": {"comb"}}
+        defined = {"math": {"comb"}, "heapq": {"heappush", "heappop"}}
         for path, tree in self.trees.items():
             module = f"sayable.{path.stem}"
             defined[module] = {x.name for x in tree.body if isinstance(x, (ast.FunctionDef, ast.ClassDef))}
@@ -183,10 +183,12 @@ class Package(unittest.TestCase):
     def test_classes(self):
         stored = set()
         methods = {}
+        valued = set()
         for where, node in self.each_node(ast.ClassDef):
             self.assertEqual(node.decorator_list, [], where)
             self.assertRegex(node.name, "^[A-Z]", where)
             own = [x for x in node.body if isinstance(x, ast.FunctionDef)]
+            valued |= {x.targets[0].id for x in node.body if isinstance(x, ast.Assign)}
             self.assertEqual(len(own), len({x.name for x in own}), where)
             for method in own:
                 methods.setdefault(method.name, []).append(where)
@@ -198,11 +200,12 @@ class Package(unittest.TestCase):
                           and isinstance(x.ctx, ast.Store)}
             self.assertEqual(attributes & {x.name for x in own}, set(), where)
             stored |= attributes
+        self.assertEqual(valued & (stored | set(methods)), set())
         self.assertEqual(stored & {"items", "keys", "values", "pop", "update", "append", "clear", "extend", "insert",
                                    "remove", "reverse", "setdefault", "sort", "args", "encode", "decode", "format"}, set())
         for where, node in self.each_node(ast.Attribute):
             self.assertNotIn(node.attr, NEVER, where)
-            known = node.attr in stored or node.attr in methods or node.attr in METHODS
+            known = node.attr in stored or node.attr in methods or node.attr in METHODS or node.attr in valued
             self.assertTrue(known or node.attr in ("add", "discard", "__init__", "__class__", "__name__"),
                             f"{where}: {node.attr}")
 
@@ -216,6 +219,8 @@ class Package(unittest.TestCase):
                     continue
                 where = f"{path.name}:{node.lineno}"
                 over = parents[node]
+                while isinstance(over, ast.BinOp) and isinstance(over.op, (ast.Sub, ast.BitAnd, ast.BitOr, ast.BitXor)):
+                    over = parents[over]
                 if isinstance(over, ast.Call):
                     self.assertIn(over.func.id, ("sorted", "len"), where)
                 elif isinstance(over, ast.Assign):
