@@ -2,7 +2,7 @@
 
 from sayable.checks import is_list
 from sayable.errors import BadBook
-from sayable.lists import need_once
+from sayable.lists import need_crowd
 from sayable.needs import need_rooms
 
 
@@ -20,12 +20,8 @@ def _checked_crowds(rooms, meant):
 
 
 def _checked_crowd(room, crowd):
-    ahead = []
-    for thing in crowd:
-        room.number_of_thing(thing)
-        ahead.append(thing)
-        need_once(ahead)
-    return tuple([thing for thing in room.things if thing in ahead])
+    need_crowd(room, crowd)
+    return tuple([thing for thing in room.things if thing in crowd])
 
 
 class Book:

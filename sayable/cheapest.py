@@ -34,7 +34,7 @@ def cheapest_words(book, priced):
         return NoSet(reading.field.places_in(left))
     price, picked = _cheapest_set(reading)
     refusing = Refusing(reading, price)
-    return Cheapest(picked, price, refusing.tree(0, 0))
+    return Cheapest(picked, price, refusing.tree_for(0, 0))
 
 
 def _cheapest_set(reading):
@@ -56,14 +56,14 @@ class Refusing:
         self._price = price
         self._refusals = _least_refusals(reading)
 
-    def tree(self, above, left_out):
+    def tree_for(self, above, left_out):
         """The tree where the sayings above cost too little to say the book together."""
         if sum([self._prices[index] for index in bits_of(above)]) >= self._price:
             return None
         place, refusing = self._first_fitted(above)
         branches = []
         for index in bits_of(refusing & ~left_out):
-            branches.append((index, self.tree(above | 1 << index, left_out)))
+            branches.append((index, self.tree_for(above | 1 << index, left_out)))
             left_out = left_out | 1 << index
         return place, branches
 
@@ -84,4 +84,4 @@ def _least_refusals(reading):
     for number in bits_of(reading.others):
         refusing = mask_of([index for index in reading.usable if not reading.masks[index] >> number & 1])
         found.setdefault(refusing, reading.field.all_places[number])
-    return sorted([(found[refusing], refusing) for refusing in found], key=lambda row: (count_of(row[1]), row[1]))
+    return sorted([(found[mask], mask) for mask in found], key=lambda row: (count_of(row[1]), row[1]))

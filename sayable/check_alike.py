@@ -19,14 +19,16 @@ def _told_rows(field, pairs):
     return rows
 
 
+def are_told_closed(field, way, value):
+    """Whether any value is a list of pairs of places of a field that are closed in a way."""
+    if not is_list(value) or not all([_is_pair(field.rooms, pair) for pair in value]):
+        return False
+    return are_closed(field, way, _told_rows(field, value))
+
+
 def shows_likeness(rooms, way, value):
     """Whether any value is a list of pairs of places of these rooms that are closed."""
     if not are_few_rooms(rooms):
         return False
     need_way(way, LIKE_WAYS)
-    if not has_few_places(rooms) or not is_list(value):
-        return False
-    if not all([_is_pair(rooms, pair) for pair in value]):
-        return False
-    field = Field(rooms)
-    return are_closed(field, way, _told_rows(field, value))
+    return has_few_places(rooms) and are_told_closed(Field(rooms), way, value)

@@ -91,12 +91,12 @@ class ClassMaker:
         facts = PlaceFacts(field, way)
         self.classes = self._parted([(field.whole, self.maker.put(("thing",)))], facts.first_facts())
         while True:
-            finer = self._parted(self.classes, facts.next_facts(self.colors()))
+            finer = self._parted(self.classes, facts.next_facts(self.class_colors()))
             if len(finer) == len(self.classes):
                 break
             self.classes = finer
 
-    def colors(self):
+    def class_colors(self):
         """For each place the number of its class."""
         found = {}
         for color, (mask, _) in enumerate(self.classes):

@@ -24,5 +24,5 @@ def is_apart(rooms, way, one, other):
     need_few_places(rooms)
     field = Field(rooms)
     maker = ClassMaker(field, way)
-    colors = maker.colors()
+    colors = maker.class_colors()
     return colors[field.number_of_place(one)] != colors[field.number_of_place(other)]

@@ -63,6 +63,13 @@ class Standing:
         return {"it": held[0], "other": held[1], "first": held[2]}
 
 
+def standing_of(picks):
+    """The standing that tells three picks, each None or crowds that were looked at before."""
+    standing = Standing()
+    standing.last, standing.before, standing.first = picks
+    return standing
+
+
 def is_pick(rooms, value):
     """Whether any value is a pick in these rooms: a crowd for each, none empty, in the order of its room."""
     if not isinstance(value, tuple) or len(value) != len(rooms):

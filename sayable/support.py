@@ -17,13 +17,18 @@ def stages_to(rounds, one, other, many):
 
 def closed_from(rounds, one, other):
     """Closed pairs with this pair, which is like for all rounds."""
-    rows = {one: 1 << other}
-    fresh = {one: 1 << other}
+    return told_pairs(rounds, closed_rows(rounds, {one: 1 << other}))
+
+
+def closed_rows(rounds, asked):
+    """The rows of closed pairs with these pairs, which are like for all rounds."""
+    rows = dict(asked)
+    fresh = dict(asked)
     while fresh:
         fresh = rounds.pairs_below(fresh, None, rows)
         for number in fresh:
             rows[number] = rows.get(number, 0) | fresh[number]
-    return told_pairs(rounds, rows)
+    return rows
 
 
 def told_pairs(rounds, rows):
