@@ -32,19 +32,19 @@ class Compare:
         need_way(way, COMPARING_WAYS)
         need_few_places(book.rooms)
         self.field = Field(book.rooms)
-        self.classes = ClassMaker(self.field, way)
+        self.maker = ClassMaker(self.field, way)
         self.meant = self.field.mask_of_places(book.meant_places())
 
 
 def say_compared(book, way):
     """A Compared, if the meant places are said by comparing; otherwise a Cut."""
     compare = Compare(book, way)
-    mixed = compare.classes.first_mixed(compare.meant)
+    mixed = compare.maker.first_mixed(compare.meant)
     if mixed is None:
-        return Compared(compare.classes.saying_for(compare.meant))
+        return Compared(compare.maker.saying_for(compare.meant))
     one, other = mixed
     places = compare.field.all_places
-    return Cut(compare.classes.told_classes(), places[one], places[other])
+    return Cut(compare.maker.told_classes(), places[one], places[other])
 
 
 def class_sayings(rooms, way):
@@ -52,15 +52,15 @@ def class_sayings(rooms, way):
     need_rooms(rooms)
     need_way(way, COMPARING_WAYS)
     need_few_places(rooms)
-    made = ClassMaker(Field(rooms), way)
-    return tuple([made.saying_for(mask) for mask, _ in made.classes])
+    maker = ClassMaker(Field(rooms), way)
+    return tuple([maker.saying_for(mask) for mask, _ in maker.classes])
 
 
 def around_compared(book, way):
     """The book of the least crowds that are said by comparing and hold the meant things."""
     compare = Compare(book, way)
     around = 0
-    for mask, _ in compare.classes.classes:
+    for mask, _ in compare.maker.classes:
         if mask & compare.meant:
             around = around | mask
     return book.changed(meant=compare.field.crowds_in(around))
