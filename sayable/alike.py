@@ -64,8 +64,13 @@ class Step:
         if self.asks_all_partners and not ones:
             return others & ~self.leading_to(at, self.whole)
         if self.asks_partners and ones:
+            # Places that lead to the same ones have partners alike.
+            known = {}
             for other in bits_of(others):
-                if not self._has_partners(ones, rows, heads[other]):
+                mask = heads[other]
+                if mask not in known:
+                    known[mask] = self._has_partners(ones, rows, mask)
+                if not known[mask]:
                     others = others ^ 1 << other
         return others
 
