@@ -2,8 +2,8 @@
 
 from sayable.checks import is_list, is_name, is_within
 from sayable.errors import BadNumbers, BadTalk, Twice, Unlike
-from sayable.needs import need_rooms, need_saying
-from sayable.reads import need_in_stock, reading_of
+from sayable.needs import need_rooms
+from sayable.reads import reading_of
 
 TALK_WORDS = ("first", "it", "other")
 
@@ -70,15 +70,15 @@ def standing_of(picks):
     return standing
 
 
-def is_pick(rooms, value):
-    """Whether any value is a pick in these rooms: a crowd for each, none empty, in the order of its room."""
-    if not isinstance(value, tuple) or len(value) != len(rooms):
+def is_pick(rooms, picked):
+    """Whether a pick of a standing is one in these rooms: a crowd for each, in the order of its room."""
+    if len(picked) != len(rooms):
         return False
-    return all([_is_crowd_of(room, crowd) for room, crowd in zip(rooms, value)])
+    return all([_is_crowd_of(room, crowd) for room, crowd in zip(rooms, picked)])
 
 
 def _is_crowd_of(room, crowd):
-    if not isinstance(crowd, tuple) or not crowd or not all([thing in room for thing in crowd]):
+    if not all([thing in room for thing in crowd]):
         return False
     numbers = [room.number_of_thing(thing) for thing in crowd]
     return numbers == sorted(set(numbers))
@@ -99,7 +99,5 @@ def picked_by(rooms, standing, saying):
         raise BadTalk("standing")
     if not all([picked is None or is_pick(rooms, picked) for picked in standing.picks()]):
         raise BadTalk("standing")
-    need_saying(saying)
-    need_in_stock(rooms[0], saying, TALK_WORDS)
     found = tuple([reading_of(room, saying, standing.word_things(number)) for number, room in enumerate(rooms)])
     return None if () in found else found

@@ -3,7 +3,7 @@
 from sayable.changes import changed_room
 from sayable.checks import is_list, is_name
 from sayable.errors import BadDeed, NoName, Nothing, TooMany
-from sayable.needs import need_room, need_saying
+from sayable.needs import need_room
 from sayable.reads import reading_of
 
 MOST_WATCHED = 24
@@ -32,7 +32,6 @@ class Watched:
         """Keeps a saying under a name; tells the name if one stood there that read other things."""
         if not is_name(name):
             raise NoName(name)
-        need_saying(saying)
         reading = reading_of(self.room, saying)
         if name not in self._sayings and len(self._sayings) == MOST_WATCHED:
             raise TooMany("watched", MOST_WATCHED)

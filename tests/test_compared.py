@@ -149,6 +149,9 @@ class Comparing(Case):
         for call in (say_compared, around_compared):
             self.raises(("TooMany", "places", 100), call, large, "full")
         self.raises(("TooMany", "places", 100), class_sayings, [wide] * 3, "full")
+        more = Book([wide, wide, wide.kept(wide.things[:33])], [[]] * 3)
+        for call in (say_compared, around_compared):
+            self.raises(("TooMany", "places", 100), call, more, "full")
         hundred = Book([wide, wide, wide.kept(wide.things[:32])], [wide.things, wide.things, wide.things[:32]])
         self.assertIs(bool(say_compared(hundred, "not")), True)
         self.assertIs(shows_compared(hundred, "not", Compared(any_thing())), True)

@@ -144,7 +144,7 @@ class DeskLines(Case):
             self.refused(len(words), line + " ", line + " x", line + " ,")
         for at, wrong in positions.items():
             for word in (*wrong, *ODD_WORDS):
-                self.refused(at, " ".join([*words[:at], word, *words[at + 1:]]), " ".join([*words[:at], word]))
+                self.refused(at, " ".join([*words[:at], word, *words[at + 1:]]), " ".join([*words[:at], word, *words[at:]]), " ".join([*words[:at], word]))
             self.refused(at, " ".join(words[:at]))
 
     def test_say(self):

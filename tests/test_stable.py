@@ -124,7 +124,9 @@ class StableClasses(Case):
             self.raises(("BadPlace", "one"), is_apart, [wide] * 3, "not", value, value)
         self.raises(("TooMany", "places", 100), is_apart, [wide] * 3, "not", (0, "t0"), (0, "t1"))
         self.raises(("TooMany", "places", 100), stable_classes, [wide] * 3, "full")
+        self.raises(("TooMany", "places", 100), stable_classes, [wide, wide, wide.kept(wide.things[:33])], "full")
         self.assertEqual(len(stable_classes([wide, wide, wide.kept(wide.things[:32])], "full")), 1)
+        self.assertIs(is_apart([wide, wide, wide.kept(wide.things[:32])], "full", (0, "t0"), (2, "t31")), False)
 
     def test_soon_enough(self):
         start = time.time()

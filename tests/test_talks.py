@@ -151,6 +151,17 @@ class CheapestTalk(Case):
         self.assertEqual(cheapest_talk([row], back, [[["t2"]], [["t0"]], [["t1"]]]).parts[:2], ((0, 1, 1, 3, 0, 3), 4))
         self.assertEqual(cheapest_talk([row], back, [[["t2"]], [["t1"]]]).parts[:2], ((0, 1, 1, 3), 3))
 
+    def test_a_dead_end(self):
+        """The first phrase bars the second one for good."""
+        things = ["a", "b", "c"]
+        room = Room(things, {"w": ["a"], "v": ["b"]}, {"all": [(t, u) for t in things for u in things]})
+        early = of_word("v") & ~some_of("all", of_word("it"))
+        for sayings in ([of_word("w"), early], [early, of_word("w")]):
+            priced = Priced.alike(2, *sayings)
+            self.assertEqual(self.check_paper([room], priced, [[["b"]]]), 2)
+            self.assertEqual(self.check_paper([room], priced, [[["b"]], [["a"]]]), 4)
+            self.assertIsNone(self.check_paper([room], priced, [[["a"]], [["b"]]]))
+
     def test_free_phrases(self):
         ring = rings(5)
         free = Priced([(next_one(), 0), (some_of("l", of_word("it")), 0)])
@@ -192,6 +203,9 @@ class CheapestTalk(Case):
             else:
                 value = Talk([0] * steps, steps, [(0, Standing(), steps)])
                 self.assertIs(shows_talk(rooms, priced, [goal], value), False)
+        for steps, wanted in ((1999, True), (2000, False)):
+            goal = [[room.things[(steps - 1) % len(room)]] for room in rooms]
+            self.assertIs(shows_talk(rooms, Priced([(next_one(), 0)]), [goal], Talk([0] * steps, 0, [])), wanted)
         shut = rings(2, 27, 37)
         self.assertEqual(len(cheapest_talk(shut, priced, [[["t0", "t1"], ["t0"], ["t0"]]]).standings), 2000)
         self.raises(("TooMany", "standings", 2000), cheapest_talk, rings(14, 11, 13), priced, [[["t0", "t1"], ["t0"], ["t0"]]])

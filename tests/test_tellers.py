@@ -6,7 +6,7 @@ from sayable.check_tellers import shows_agreed
 from sayable.papers import Denial, Paper
 from sayable.reads import readings_in
 from sayable.rooms import Room
-from sayable.sayings import any_thing, of_word, some_of, top_of
+from sayable.sayings import any_thing, no_thing, of_word, some_of, top_of
 from sayable.tellers import Agreed, agreed_crowds, passed_on
 from sayable.ways import way_lets
 from tests import plain, plain_talk
@@ -284,6 +284,12 @@ class CheckAgreed(Case):
         steps = [((0, "q"), 0, (0, "p")), ((0, "p"), 0, (0, "q")), ((0, "q"), 0, (0, "p")), ((0, "r"), 1, (0, "q")), ((0, "r"), 1, (0, "r"))]
         self.assertIs(shows_agreed(book, [hue, size], "not", Agreed(found.meant, steps, pairs, [any_thing(), any_thing()])), True)
         self.assertIs(shows_agreed(book, [hue, size], "not", Agreed(found.meant, steps[::-1], pairs, [any_thing(), any_thing()])), False)
+
+    def test_crowds_that_lack_what_is_meant(self):
+        book, (hue, size) = Book([the_box()], [["p"]]), the_tellers()
+        for crowd, saying in (([], no_thing()), (["r"], of_word("blue")), (["p", "q"], of_word("red"))):
+            self.assertIs(shows_agreed(book, [hue], "not", Agreed([crowd], [((0, "q"), 0, (0, "p"))] * ("q" in crowd), [[((0, "p"), (0, "q"))]], [saying])), "p" in crowd)
+            self.assertIs(shows_agreed(book.changed(meant=[[]]), [hue], "not", Agreed([crowd], [], [[]], [saying])), crowd == [])
 
     def test_any_values(self):
         book, (hue, size) = Book([the_box()], [["p"]]), the_tellers()
