@@ -62,9 +62,10 @@ class Refusing:
             return None
         place, refusing = self._first_fitted(above)
         branches = []
+        ahead = left_out
         for index in bits_of(refusing & ~left_out):
-            branches.append((index, self.tree_for(above | 1 << index, left_out)))
-            left_out = left_out | 1 << index
+            branches.append((index, self.tree_for(above | 1 << index, ahead)))
+            ahead = ahead | 1 << index
         return place, branches
 
     def _first_fitted(self, above):
